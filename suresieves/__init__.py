@@ -1,0 +1,1 @@
+"""Suresieves: packets sieved by rows that are shown to be harmless."""
