@@ -1,5 +1,7 @@
 """Sources, packets and tables made by chance, always the same for the same seed."""
 
+from suresieves.sources import is_source
+
 OPS = ("add", "sub", "and", "or", "xor", "left", "right")
 RELATIONS = ("same", "other", "below", "from", "bit", "nobit")
 NAMES = ("a", "b", "x1", "write")
@@ -63,7 +65,11 @@ def body(chance, room, repeats, rounds):
 
 
 def source(chance):
-    return body(chance, 4, 0, 1) + (("answer", expression(chance, 5)),)
+    """A source that GRANT serves."""
+    while True:
+        told = body(chance, 4, 0, 1) + (("answer", expression(chance, 5)),)
+        if is_source(told):
+            return told
 
 
 def word(chance):

@@ -7,7 +7,7 @@ from suresieves.compiling import compiled, does_serve
 from suresieves.errors import NotServed, TooMany
 from suresieves.listings import read_listing, sieve_of
 from suresieves.runs import answer_of, begun, fits, is_sieve, run_on
-from suresieves.sources import is_source, meant, read_source
+from suresieves.sources import meant, read_source
 from tests import randoms
 
 GRANT = (0, 64, 1, (("array", 1, 3), ("pairs", 1, 4), ("array", 0, 1), ("pairs", 0, 0)))
@@ -192,8 +192,6 @@ class TestMeaning(unittest.TestCase):
         many = 0
         while many < 700:
             source = randoms.source(chance)
-            if not is_source(source):
-                continue
             self.assertTrue(does_serve(source, randoms.GRANT))
             try:
                 sieve = compiled(source, randoms.GRANT)
