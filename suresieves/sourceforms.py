@@ -43,10 +43,6 @@ PLAIN_STATEMENTS = {
     "answer": ("expression",),
 }
 
-STATEMENT_WORDS = (
-    "let", "write", "fill", "count", "change", "answer", "if", "repeat", "leave",
-)
-
 
 def is_name(value):
     """Whether a value is a name of a source."""
@@ -144,12 +140,28 @@ def names_in(source):
     return tuple(names)
 
 
+def has_few_statements(value):
+    """Whether a value, if it is a body, has up to 40 statements, with all bodies within."""
+    waiting, many = [value], 0
+    while waiting:
+        body = waiting.pop()
+        if not isinstance(body, tuple):
+            return False
+        many += len(body)
+        if many > 40:
+            return False
+        for statement in body:
+            if head_of(statement) in ("if", "repeat"):
+                waiting.extend(statement[2:])
+    return True
+
+
 def is_sound_source(value):
     """Whether a value is a source."""
-    if not is_body(value, 0, 0, 1):
+    # They are counted first, so that no more than 40 are ever looked at more closely.
+    if not has_few_statements(value) or not is_body(value, 0, 0, 1):
         return False
-    statements = [node for node in nodes_in(value) if node[0] in STATEMENT_WORDS]
-    return len(statements) <= 40 and len(names_in(value)) <= 12
+    return len(names_in(value)) <= 12
 
 
 def greatest_rounds(body, rounds):
