@@ -18,8 +18,8 @@ def least_fitting(start, mask, bits):
         raised = above | (1 << k)
         fixed = mask >> k << k
         if start >> k & 1 == 0 and raised & fixed == bits & fixed:
-            # Below the bit that is raised, all that is not told by the mask is 0.
-            return raised | bits & ((1 << k) - 1)
+            # Above the bit that is raised the bits are there; below it nothing else has to be.
+            return raised | bits
     return None
 
 

@@ -10,7 +10,7 @@ from tests.values import ANY, GRANT, LISTING, NO_NUMBERS, NO_TUPLES, PACKET, RUN
 from tests.values import STATE, STRANGE, TABLES, put
 
 LONG = 10 ** 30
-BAD_SIEVES = [(value, {"index": None}) for value in NO_TUPLES + ((), SIEVE * 61)] + [
+BAD_SIEVES = [(value, {"index": None}) for value in NO_TUPLES + ((), SIEVE * 60 + SIEVE[:1])] + [
     ((SIEVE[0], value), {"index": 1}) for value in STRANGE
 ] + [((("answer", 8), None), {"index": 0}), (SIEVE * 59 + (("jump", 120),) * 2, {"index": 118})]
 BAD_PACKETS = [(value, {"index": None}) for value in NO_TUPLES + ((0,) * 257,)] + [

@@ -129,6 +129,9 @@ class TestShown(unittest.TestCase):
                 self.assertEqual(show_listing((line,)), text)
                 self.assertEqual(read_listing(text), (line,))
                 self.assertEqual(read_listing("  " + text.replace(" ", "   ") + " "), (line,))
+        for a in range(8):
+            self.assertEqual(show_listing((("answer", a),)), f"answer r{a}")
+            self.assertEqual(read_listing(f"answer r{a}"), (("answer", a),))
         self.assertEqual(show_listing((SET, label("a"), ("answer", 0))), "set r0 1\na:\nanswer r0")
         self.assertEqual(show_sieve((SET, ("answer", 0))), "set r0 1\nanswer r0")
 

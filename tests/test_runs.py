@@ -30,7 +30,7 @@ class TestForms(unittest.TestCase):
             {"clock": -1}, {"steps": -1}, {"writable": 2}, {"writable": -1}, {"end": ("answer", 65536)},
             {"end": ("answer", -1)}, {"end": ("answer",)}, {"end": ("answer", 1, 1)}, {"end": ["answer", 1]},
             {"end": ("answer", True)}, {"end": ("fault", "jump")}, {"end": ("fault", "")}, {"end": ("fault", None)},
-            {"end": ("fault", ["place"])}, {"end": ("place",)}, {"end": "answer"}, {"end": 0}, {"end": ()},
+            {"end": ("fault", ["place"])}, {"end": ("faults", "place")}, {"end": ("end", 0)}, {"end": ("place",)}, {"end": "answer"}, {"end": 0}, {"end": ()},
         ):
             with self.subTest(parts=parts):
                 self.assertIs(is_run(run_with(**parts)), False)

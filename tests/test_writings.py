@@ -31,6 +31,9 @@ SHOWN = (
      "if not 1 >= 2 then\nanswer 1\nelse\nanswer 2\nend"),
     ((("if", ("both", ("bit", ONE, TWO), ("either", ("nobit", ONE, TWO), ("same", X, X))), (), ()),),
      "if both 1 bit 2 and either 1 nobit 2 or x = x then\nend"),
+    (tuple(("let", sign, ("name", sign + "9")) for sign in "bcdefg"),
+     "let b = b9\nlet c = c9\nlet d = d9\nlet e = e9\nlet f = f9\nlet g = g9"),
+    (tuple(("let", sign, ("name", sign + "0")) for sign in "qz"), "let q = q0\nlet z = z0"),
     ((("repeat", 100, (("leave",), ("repeat", 1, ()))),), "repeat 100\nleave\nrepeat 1\nend\nend"),
 )
 
@@ -42,7 +45,8 @@ REFUSED = (
     ("let 12ab = 1", 4), ("let x = 12ab", 8), ("let x = 65536", 8), ("let x = 01", 8), ("let x = 00", 8),
     ("let x = 99999999999999999999999999", 8), ("set", 3), ("set x = 1", 4), ("set byte = 1", 9),
     ("set byte 1 2", 11), ("set cell x 1 = 2", 9), ("set cell 6 1 = 2", 9), ("set cell 00 1 = 2", 9),
-    ("set value 5 1", 13), ("set pair 1 = 2", 4), ("count", 5), ("count byte 1", 6), ("count value 1 2", 6),
+    ("set value 5 1", 13), ("set value 6 1 = 2", 10),
+    ("answer cell 6 1", 12), ("answer has 6 1", 11), ("answer value 6 1", 13), ("set pair 1 = 2", 4), ("count", 5), ("count byte 1", 6), ("count value 1 2", 6),
     ("count cell 6 2", 11), ("count cell 1", 12), ("if", 2), ("if 1", 4), ("if 1 = 2", 8), ("if 1 = 2 answer 1", 9),
     ("if 1 = 2 then", 13), ("if 1 = 2 then else", 18), ("if 1 = 2 then else else", 19), ("if 1 then end", 5),
     ("if not then", 7), ("if both 1 = 1 or 1 = 1 then end", 14), ("if either 1 = 1 and 1 = 1 then end", 16),
