@@ -110,11 +110,14 @@ def is_value_within(one, two, least):
 
 def is_state_within(state, other):
     """Whether one known state is within another one."""
-    stretches = zip(state[2] + (state[3],), other[2] + (other[3],))
-    if not all([is_stretch_within(one, two) for one, two in stretches]):
-        return False
-    values = zip(state[0] + state[1], other[0] + other[1])
-    return all([is_value_within(one, two, state[3][0]) for one, two in values])
+    least = state[3][0]
+    for one, two in zip(state[2] + (state[3],), other[2] + (other[3],)):
+        if not is_stretch_within(one, two):
+            return False
+    for one, two in zip(state[0] + state[1], other[0] + other[1]):
+        if not is_value_within(one, two, least):
+            return False
+    return True
 
 
 def is_so_of(value, word, run):
@@ -137,11 +140,13 @@ def is_handle_so(t, word, tables):
 
 def is_state_so(state, run):
     """Whether a known state is so in a run."""
-    values = zip(state[0] + state[1], run[0] + run[1])
-    if not all([is_so_of(value, word, run) for value, word in values]):
-        return False
-    counts = zip(state[2] + (state[3],), run[2] + (len(run[4]),))
-    return all([low <= count <= high for (low, high), count in counts])
+    for (low, high), count in zip(state[2] + (state[3],), run[2] + (len(run[4]),)):
+        if not low <= count <= high:
+            return False
+    for value, word in zip(state[0] + state[1], run[0] + run[1]):
+        if not is_so_of(value, word, run):
+            return False
+    return True
 
 
 def entry_state(grant):
