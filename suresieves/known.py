@@ -53,6 +53,12 @@ def need_state(value):
         raise InvalidState(value)
 
 
+def need_least(least):
+    """Raise InvalidNumber for no whole number from 0 to 256."""
+    if not is_between(least, 0, 256):
+        raise InvalidNumber(least)
+
+
 def is_so(known, word, run):
     """Whether a known value is so of a word in a run."""
     need_known(known)
@@ -70,8 +76,7 @@ def tight(known):
 def room_of(known, least):
     """The room of a known value where at least so many bytes are known to be."""
     need_known(known)
-    if not is_between(least, 0, 256):
-        raise InvalidNumber(least)
+    need_least(least)
     return known_room(known, least)
 
 

@@ -3,7 +3,7 @@
 from suresieves.checks import are_all, first_bad, is_between, is_flag, is_one_of, is_tuple
 from suresieves.checks import is_whole, is_word
 from suresieves.doing import next_fault, stepped
-from suresieves.errors import InvalidName, InvalidNumber, InvalidRun, InvalidSieve
+from suresieves.errors import InvalidName, InvalidNumber, InvalidRow, InvalidRun, InvalidSieve
 from suresieves.packets import are_tables, is_packet, need_grant, need_packet, need_tables
 from suresieves.packets import need_writable
 from suresieves.rows import is_row_form
@@ -67,6 +67,18 @@ def need_sieve(sieve):
     wrong = first_bad(sieve, is_row)
     if wrong is not None:
         raise InvalidSieve(wrong)
+
+
+def need_row(row):
+    """Raise InvalidRow for what is no row."""
+    if not is_row(row):
+        raise InvalidRow(row)
+
+
+def need_place(place):
+    """Raise InvalidNumber for no whole number from 0 to 119."""
+    if not is_between(place, 0, 119):
+        raise InvalidNumber(place)
 
 
 def need_run(run):

@@ -77,3 +77,8 @@ def ones_in(number):
 def mixed(word):
     """What the helper mix tells of a word."""
     return (word * 40503 + 1) & 65535
+
+
+def figures_from(number):
+    """The least number 2^K - 1 from a number on."""
+    return (1 << number.bit_length()) - 1

@@ -5,9 +5,10 @@ import inspect
 import unittest
 from itertools import combinations
 
-from suresieves import compiling, errors, known, listings, packets, runs, sources
-from tests.values import ANY, GRANT, LISTING, NO_NUMBERS, NO_TUPLES, PACKET, RUN, SIEVE, SOURCE
-from tests.values import STATE, STRANGE, TABLES, put
+from suresieves import blocks, compiling, errors, forms, hosts, inspector, judge, known, listings, maps, packets
+from suresieves import rewritings, runs, sources, ways
+from tests.values import ANY, EXIT, FORM, GRANT, HOST, LISTING, MARKS, NO_NUMBERS, NO_TUPLES, PACKET, RUN, SIEVE
+from tests.values import SOURCE, STATE, STRANGE, TABLE, TABLES, TRANSLATION, put
 
 LONG = 10 ** 30
 BAD_SIEVES = [(value, {"index": None}) for value in NO_TUPLES + ((), SIEVE * 60 + SIEVE[:1])] + [
@@ -40,6 +41,45 @@ BAD_KNOWN = [(value, {"given": value}) for value in STRANGE + ((), ANY[:6], (1, 
 BAD_LEAST = [(value, {"given": value}) for value in NO_NUMBERS + (-1, 257, LONG)]
 BAD_STATES = [(value, {"given": value}) for value in STRANGE + ((), STATE[:3], put(STATE, 3, (5, 4)), ANY)]
 
+
+def given(*values):
+    """Wrong values that an error keeps as they are."""
+    return [(value, {"given": value}) for value in values]
+
+
+BAD_ROWS = given(*STRANGE, (), 0, ("set", 8, 0), ("set", 0), ("leave", 0), ["set", 0, 0], SIEVE)
+BAD_PLACES = given(*NO_NUMBERS, -1, 120, LONG)
+BAD_MANY = given(*NO_NUMBERS, -1, 0, 121, LONG)
+BAD_KNOWN_TABLES = [(value, {"index": None}) for value in NO_TUPLES + ((), TABLE[:1], TABLE + TABLE[:1])] + [
+    ((STATE, value), {"index": 1}) for value in STRANGE[1:] + ((), STATE[:3], 0)
+] + [((0, 0), {"index": 0}), ((None, put(STATE, 3, (5, 4))), {"index": 1})]
+BAD_LIMITS = given(*NO_NUMBERS, -1, 0, 13, LONG)
+BAD_FORMS = given(*STRANGE, (), 0, FORM[:4], put(FORM, 0, 120), put(FORM, 3, FORM[3][:1]), list(FORM))
+BAD_MOSTS = given(*NO_NUMBERS, -1, 13, LONG)
+BAD_BOUNDARIES = given(*NO_NUMBERS, -1, 2, LONG)
+BAD_STEPS_OF_FORMS = given(*STRANGE, (), 0, ("drop",), ("drop", -1), ("same", 1), ("ended", 0), ["ended"])
+BAD_LED = [(value, {"index": None}) for value in NO_TUPLES] + [
+    ((("ended",), ("drop", 1), value, 0), {"index": 2}) for value in STRANGE + ((), ("drop", True), ("told", 0))
+]
+NO_PLACES = tuple(value for value in STRANGE if value != ()) + (
+    0, (-1,), (120,), (True,), (0, 0), (3, 2), (1, 2, "3"), [1], (1, None),
+)
+BAD_SURE = given(*NO_PLACES)
+BAD_TRANSLATIONS = given(*STRANGE, (), 0, TRANSLATION[:1], (TRANSLATION[0], ()), ((), TRANSLATION[1]), list(TRANSLATION),
+                         (TRANSLATION[0][:1], TRANSLATION[1]))
+BAD_HOSTS = given(*STRANGE, (), 0, HOST[:1], (HOST[0], HOST[1][:111]), put(HOST, 0, HOST[0][:11] + (-1,)), list(HOST))
+BAD_HOST_ROWS = given(*STRANGE, (), 0, ("byte", 0, 0, 0, None), ("leave", 0), ("most", 0, 0), ("skip", 0, 1),
+                      ("grow", 0, 0, None), ("set", 12, 0), ("take", 0, 112), ("add", 0, 0), ["set", 0, 0])
+BAD_EXITS = given(*NO_NUMBERS, -1, 2, LONG)
+BAD_MARKS = [(value, {"index": None}) for value in NO_TUPLES] + [
+    (MARKS + (value, 0), {"index": 5}) for value in STRANGE + ((), ("add", 0, 5), ("box", 112)) + MARKS
+]
+BAD_MARK_OPS = given(*NO_NUMBERS, 0, "addn", "ones ", "number", "byte")
+BAD_MARK_NUMBERS = given(*NO_NUMBERS, -1, 5, LONG)
+BAD_WORDS_READ = [(value, {"index": None}) for value in NO_TUPLES] + [
+    ((1, 2, value, -1), {"index": 2}) for value in NO_NUMBERS + (-1, 65536, LONG)
+]
+
 SIEVE_ARG = (SIEVE, "InvalidSieve", BAD_SIEVES)
 PACKET_ARG = (PACKET, "InvalidPacket", BAD_PACKETS)
 TABLES_ARG = (TABLES, "InvalidTables", BAD_TABLES)
@@ -53,6 +93,18 @@ LISTING_ARG = (LISTING, "InvalidListing", BAD_LISTINGS)
 WRITING_ARG = ("answer r0", "InvalidWriting", BAD_WRITINGS)
 KNOWN_ARG = (ANY, "InvalidKnown", BAD_KNOWN)
 STATE_ARG = (STATE, "InvalidState", BAD_STATES)
+ROW_ARG = (("addn", 0, 7), "InvalidRow", BAD_ROWS)
+PLACE_ARG = (0, "InvalidNumber", BAD_PLACES)
+LEAST_ARG = (4, "InvalidNumber", BAD_LEAST)
+TABLE_ARG = (TABLE, "InvalidTable", BAD_KNOWN_TABLES)
+LIMIT_ARG = (12, "InvalidNumber", BAD_LIMITS)
+FORM_ARG = (FORM, "InvalidForm", BAD_FORMS)
+MOST_ARG = (12, "InvalidNumber", BAD_MOSTS)
+SURE_ARG = ((0, 119), "InvalidSure", BAD_SURE)
+TRANSLATION_ARG = (TRANSLATION, "InvalidTranslation", BAD_TRANSLATIONS)
+HOST_ARG = (HOST, "InvalidHost", BAD_HOSTS)
+MARKS_ARG = (MARKS, "InvalidMarks", BAD_MARKS)
+MARK_ARG = (4, "InvalidNumber", BAD_MARK_NUMBERS)
 
 # For each function its parameters in order: a right value, the error, wrong values and what it keeps.
 FUNCTIONS = {
@@ -79,17 +131,54 @@ FUNCTIONS = {
     listings.show_sieve: {"sieve": SIEVE_ARG},
     known.is_so: {"known": KNOWN_ARG, "word": WORD_ARG, "run": RUN_ARG},
     known.tight: {"known": KNOWN_ARG},
-    known.room_of: {"known": KNOWN_ARG, "least": (4, "InvalidNumber", BAD_LEAST)},
+    known.room_of: {"known": KNOWN_ARG, "least": LEAST_ARG},
     known.join: {"state": STATE_ARG, "other": STATE_ARG},
     known.is_within: {"state": STATE_ARG, "other": STATE_ARG},
     known.are_so: {"state": STATE_ARG, "run": RUN_ARG},
     known.entry: {"grant": GRANT_ARG},
+    ways.reckoned_known: {"op": ("sub", "InvalidName", BAD_NAMES), "one": KNOWN_ARG, "two": KNOWN_ARG, "least": LEAST_ARG},
+    ways.related_known: {"relation": ("from", "InvalidName", BAD_NAMES), "one": KNOWN_ARG, "two": KNOWN_ARG},
+    ways.ways_of: {"row": ROW_ARG, "place": PLACE_ARG, "state": STATE_ARG, "grant": GRANT_ARG},
+    ways.open_kind: {
+        "row": ROW_ARG, "place": PLACE_ARG, "state": STATE_ARG, "grant": GRANT_ARG, "many": (1, "InvalidNumber", BAD_MANY),
+    },
+    inspector.flaws: {"sieve": SIEVE_ARG},
+    inspector.steps_bound: {"sieve": SIEVE_ARG},
+    inspector.told_table: {"sieve": SIEVE_ARG, "grant": GRANT_ARG},
+    inspector.takes_table: {"sieve": SIEVE_ARG, "grant": GRANT_ARG, "table": TABLE_ARG},
+    inspector.verdict: {"sieve": SIEVE_ARG, "grant": GRANT_ARG},
+    inspector.sure_places: {"sieve": SIEVE_ARG, "grant": GRANT_ARG, "table": TABLE_ARG},
+    blocks.is_ender: {"row": ROW_ARG},
+    blocks.block_at: {"sieve": SIEVE_ARG, "place": PLACE_ARG, "limit": LIMIT_ARG},
+    forms.form_of: {"sieve": SIEVE_ARG, "place": PLACE_ARG, "limit": LIMIT_ARG},
+    forms.worked: {"run": RUN_ARG, "form": FORM_ARG, "most": MOST_ARG},
+    forms.at_boundary: {"run": RUN_ARG, "form": FORM_ARG, "number": (1, "InvalidNumber", BAD_BOUNDARIES)},
+    rewritings.steps_of: {"form": FORM_ARG, "sure": SURE_ARG},
+    rewritings.rewritten: {"form": FORM_ARG, "step": (("fold", 0), "InvalidStep", BAD_STEPS_OF_FORMS), "sure": SURE_ARG},
+    rewritings.better: {"form": FORM_ARG, "kept": ((0, 119), "InvalidKept", BAD_SURE), "sure": SURE_ARG},
+    rewritings.led_through: {"form": FORM_ARG, "steps": ((("drop", 1),), "InvalidSteps", BAD_LED), "sure": SURE_ARG},
+    rewritings.sum_of: {"form": FORM_ARG},
+    hosts.host_row: {"row": (("add", 1, 2, 3), "InvalidRow", BAD_HOST_ROWS), "host": HOST_ARG},
+    hosts.run_host: {"translation": TRANSLATION_ARG, "host": HOST_ARG, "run": RUN_ARG, "most": MOST_ARG},
+    maps.entered: {"run": RUN_ARG},
+    maps.left: {
+        "run": RUN_ARG, "translation": TRANSLATION_ARG, "exit_number": (1, "InvalidNumber", BAD_EXITS), "host": HOST_ARG,
+    },
+    maps.passed: {"translation": TRANSLATION_ARG, "run": RUN_ARG, "most": MOST_ARG},
+    judge.made_mark: {
+        "marks": MARKS_ARG, "op": ("ones", "InvalidName", BAD_MARK_OPS), "one": MARK_ARG, "two": MARK_ARG,
+    },
+    judge.bound_of: {"marks": MARKS_ARG, "number": MARK_ARG},
+    judge.worth_of: {
+        "marks": MARKS_ARG, "number": MARK_ARG, "host": HOST_ARG, "words": ((7,), "InvalidWords", BAD_WORDS_READ),
+    },
+    judge.takes: {"form": FORM_ARG, "translation": TRANSLATION_ARG},
 }
 
 QUESTIONS = (
     packets.is_packet, packets.is_table, packets.are_tables, packets.is_grant,
     runs.is_row, runs.is_sieve, runs.is_run, sources.is_source, listings.is_listing,
-    known.is_known, known.is_known_state,
+    known.is_known, known.is_known_state, forms.is_form, rewritings.is_step, hosts.is_host, hosts.is_translation,
 )
 
 
@@ -146,6 +235,17 @@ class TestArguments(unittest.TestCase):
         with self.assertRaises(errors.InvalidGrant) as caught:
             known.entry(value)
         self.assertIs(caught.exception.given, value)
+
+    def test_what_is_told_last(self):
+        ended = put(RUN, 8, ("answer", 0))
+        for error, function, arguments in (
+            ("NotThere", forms.worked, (ended, FORM, 3)), ("InvalidNumber", forms.worked, (ended, FORM, 13)),
+            ("NotThere", forms.at_boundary, (ended, FORM, 1)), ("InvalidNumber", forms.at_boundary, (ended, FORM, 2)),
+            ("NotTaken", inspector.sure_places, (SIEVE, GRANT, (None, None))),
+            ("InvalidTable", inspector.sure_places, (SIEVE, GRANT, (None, 0))),
+        ):
+            with self.assertRaises(getattr(errors, error)):
+                function(*arguments)
 
     def test_questions_of_strange_values(self):
         for question in QUESTIONS:

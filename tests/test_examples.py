@@ -49,17 +49,89 @@ LISTINGS = r"""
 [('whenn', 'below', 0, 20, 'short'), ('whenn', 'below', 0, 20, 4), 'length r0\nwhenn below r0 20 4', False]
 """
 
-KNOWN = r"""
+INSPECTOR = r"""
 >>> from suresieves.known import is_known, room_of, tight
+>>> from suresieves.ways import reckoned_known, related_known
+>>> from suresieves.inspector import flaws, steps_bound, sure_places, takes_table, told_table, verdict
 >>> nothing = (0, 65535, 0, 0, None, None, None)
 >>> five, size = (5, 5, 65535, 5, None, None, None), (0, 64, 0, 0, 0, None, None)
 >>> [tight(size), tight((4, 9, 1, 0, None, None, None)), is_known((8, 8, 1, 1, None, None, None)), room_of(five, 14), room_of(size, 0), room_of(nothing, 256)]
 [(0, 64, 65408, 0, 0, None, None), (4, 8, 65521, 0, None, None, None), False, 9, 0, None]
+>>> [reckoned_known("add", five, five, 0)[:2], reckoned_known("and", nothing, five, 0), reckoned_known("add", (20, 64, 0, 0, 0, None, None), (65532, 65532, 65535, 65532, None, None, None), 20)[:5]]
+[(10, 10), (0, 5, 65530, 0, None, None, None), (16, 60, 65472, 0, 4)]
+>>> [related_known("below", nothing, size)[0][:2], related_known("below", nothing, size)[0][5], related_known("other", five, five), related_known("nobit", nothing, (6, 6, 65535, 6, None, None, None))[0]]
+[(0, 63), 1, None, (0, 65529, 6, 0, None, None, None)]
+>>> kinds = (("length", 0), ("whenn", "below", 0, 14, 5), ("pair", 2, 1, 12), ("whenn", "other", 2, 2048, 5), ("answer", 2), ("answer", 1))
+>>> wide = (0, 64, 0, ())
+>>> [verdict(kinds, wide)[0], verdict(kinds, wide)[2], told_table(kinds, wide)[2][3], told_table(kinds, wide)[4][0][2][:2], sure_places(kinds, wide, told_table(kinds, wide))]
+['let by', 6, (14, 64), (2048, 2048), (2,)]
+>>> [verdict((("pair", 2, 1, 12), ("answer", 2)), wide)[:3], verdict((("jump", 0),), wide), verdict((("set", 0, 1),), wide)[:3], takes_table(kinds, wide, (None, None, None, None, None, None))]
+[('open', 0, 'packet'), ('flaw', 0, 'far'), ('open', 0, 'place'), False]
+>>> many = (("begin", 0), ("addn", 0, 3), ("again", 0, 4, 1), ("ask", 1, "ones", 0), ("count", 0, 1), ("answer", 0))
+>>> [verdict(many, (0, 0, 0, (("array", 1, 17),)))[2], verdict(many, (0, 0, 0, (("array", 1, 5),)))[:3], verdict(many, (0, 0, 0, (("array", 0, 17),)))[:3], steps_bound(many), flaws((("again", 0, 3, 0), ("begin", 1), ("again", 1, 2, 1), ("answer", 0)))]
+[14, ('open', 4, 'index'), ('open', 4, 'table'), 14, ((2, 'begin'),)]
+"""
+
+FORMS = r"""
+>>> from suresieves.blocks import block_at, is_ender
+>>> from suresieves.forms import at_boundary, form_of, is_form, worked
+>>> sieve = (("set", 1, 12), ("byte", 2, 1, 0), ("addn", 2, 1), ("keep", 2, 0), ("whenn", "same", 2, 7, 6), ("answer", 2), ("answer", 1))
+>>> none, slots, turns = (None,) * 8, (None,) * 16, (None,) * 4
+>>> form = form_of(sieve, 0, 12)
+>>> [len(block_at(sieve, 0, 12)), block_at(sieve, 5, 3), is_ender(sieve[3]), form[:3], form[4]]
+[5, (('answer', 2),), False, (0, 5, (('number', 12), ('byte', 0, 0, 1, 0), ('number', 1), ('do', 'add', 1, 2), ('number', 7))), ('when', 'same', 3, 4, 6)]
+>>> [form[3][0] == (none, slots, turns), form[3][2][0][:3], form[3][4][1][:2], form[3][4] == form[3][5], is_form(form), is_form(form[:4])]
+[True, (None, 0, 1), (3, None), True, True, False]
+>>> run = ((0,) * 8, (0,) * 16, (0,) * 4, 0, (0,) * 12 + (6,), (), 0, 0, None, 0)
+>>> how, after = worked(run, form, 12)
+>>> [how, after[0][:3], after[1][0], after[3], after[7], after[8], worked(run, form, 3)[0], at_boundary(run, form, 3)[0][2]]
+[('done', 5), (0, 12, 7), 7, 6, 5, None, ('most', 3), 7]
+>>> short = run[:4] + ((0,) * 12,) + run[5:]
+>>> [worked(short, form, 12)[0], worked(short, form, 12)[1][7], at_boundary(short, form, 1)[3], at_boundary(short, form, 2)]
+[('fault', 1), 1, 1, None]
+"""
+
+REWRITINGS = r"""
+>>> from suresieves.rewritings import better, led_through, rewritten, steps_of, sum_of
+>>> [steps_of(form, ()), steps_of(form, (1,))[3:], rewritten(form, ("drop", 1), (1,)), better(form, (2, 3), ())[1], better(form, (), (1,))[1][3:]]
+[(('drop', 2), ('drop', 3), ('drop', 4)), (('sure', 1),), None, (('drop', 4),), (('sure', 1), ('drop', 1))]
+>>> fills = form_of((("set", 0, 3), ("set", 1, 9), ("fill", 1, 0, 0), ("cell", 2, 0, 0), ("answer", 2)), 0, 12)
+>>> [fills[2], fills[4], steps_of(fills, ())]
+[(('number', 3), ('number', 9), ('fill', 0, 0, 1, 2, 0), ('cell', 0, 0, 3, 0)), ('answer', 3), (('drop', 1), ('drop', 4), ('told', 3, 2))]
+>>> [better(fills, (), ())[1], better(fills, (), ())[0][2][3], better(fills, (), ())[0][4], sum_of(fills) - sum_of(rewritten(fills, ("drop", 1), ())), led_through(fills, (("out", 3),), ())]
+[(('drop', 1), ('drop', 4), ('told', 3, 2), ('drop', 3)), ('gone',), ('answer', 1), 1, None]
+"""
+
+MAPS = r"""
+>>> from suresieves.hosts import host_row, is_translation, run_host
+>>> from suresieves.maps import entered, left, passed
+>>> none, slots, turns = (None,) * 8, (None,) * 16, (None,) * 4
+>>> tiny = (5, 1, (("get", 1), ("get", 2), ("do", "add", 0, 1)), ((none, slots, turns), ((None, 2) + none[2:], slots, turns)), ("on",))
+>>> rows = (("most", 0, 1), ("take", 0, 1), ("take", 1, 2), ("add", 2, 0, 1), ("set", 3, 65535), ("and", 2, 2, 3), ("leave", 0))
+>>> exits = ((1, "end", 6, None, (None, ("cell", 2)) + none[2:], slots, turns), (0, "most", 5, None, none, slots, turns))
+>>> run = ((0, 5, 65535, 0, 0, 0, 0, 0), (0,) * 16, (0,) * 4, 5, (1, 2, 3), (), 9, 40, None, 0)
+>>> host = entered(run)
+>>> [is_translation((rows, exits)), is_translation((rows[:6], exits)), host[1][:4], host[1][26:31], host_row(("sub", 0, 1, 2), ((0, 3, 5) + host[0][3:], host[1]))[0][:3]]
+[True, False, (0, 5, 65535, 0), (0, 0, 3, 9, 0), (4294967294, 3, 5)]
+>>> behind, same, number = run_host((rows, exits), host, run, 12)
+>>> [behind[0][:4], same == run, number, left(run, (rows, exits), 0, behind)[:4] == ((0, 4, 65535, 0, 0, 0, 0, 0), run[1], run[2], 6), left(run, (rows, exits), 0, behind)[7]]
+[(5, 65535, 4, 65535), True, 0, True, 41]
+>>> [passed((rows, exits), run, 12) == (0, left(run, (rows, exits), 0, behind)), passed((rows, exits), run, 0) == (1, run)]
+[True, True]
+"""
+
+JUDGE = r"""
+>>> from suresieves.judge import bound_of, made_mark, takes, worth_of
+>>> [made_mark((("box", 1), ("box", 2)), "add", 0, 1), made_mark((("box", 1), ("number", 65535)), "and", 0, 1), made_mark((("number", 3), ("number", 5)), "sub", 0, 1)]
+[((('box', 1), ('box', 2), ('add', 0, 1)), 2), ((('box', 1), ('number', 65535)), 0), ((('number', 3), ('number', 5), ('number', 4294967294)), 2)]
+>>> sums = (("box", 1), ("box", 25), ("add", 0, 1), ("number", 4), ("right", 2, 3), ("ones", 1, 1))
+>>> [bound_of(sums, 2), bound_of(sums, 4), bound_of(sums, 5), worth_of(sums, 4, host, ()), takes(tiny, (rows, exits)), takes(tiny, (rows[:5] + rows[6:], exits))]
+[65635, 4102, 7, 0, True, False]
 """
 
 
 class TestExamples(SessionCase):
     def test_sessions(self):
         names = {}
-        for text in (RUNS, SOURCES, COMPILING, LISTINGS, KNOWN):
+        for text in (RUNS, SOURCES, COMPILING, LISTINGS, INSPECTOR, FORMS, REWRITINGS, MAPS, JUDGE):
             self.go_through(text, names)

@@ -45,6 +45,32 @@ INTERFACE = {
         "room_of": "known least", "join": "state other", "is_within": "state other", "are_so": "state run",
         "entry": "grant",
     },
+    "ways": {
+        "reckoned_known": "op one two least", "related_known": "relation one two", "ways_of": "row place state grant",
+        "open_kind": "row place state grant many",
+    },
+    "inspector": {
+        "flaws": "sieve", "steps_bound": "sieve", "told_table": "sieve grant", "takes_table": "sieve grant table",
+        "verdict": "sieve grant", "sure_places": "sieve grant table",
+    },
+    "blocks": {"is_ender": "row", "block_at": "sieve place limit"},
+    "forms": {
+        "is_form": "value", "form_of": "sieve place limit", "worked": "run form most", "at_boundary": "run form number",
+    },
+    "rewritings": {
+        "is_step": "value", "steps_of": "form sure", "rewritten": "form step sure", "better": "form kept sure",
+        "led_through": "form steps sure", "sum_of": "form",
+    },
+    "hosts": {
+        "is_host": "value", "is_translation": "value", "host_row": "row host", "run_host": "translation host run most",
+    },
+    "maps": {
+        "entered": "run", "left": "run translation exit_number host", "passed": "translation run most",
+    },
+    "judge": {
+        "made_mark": "marks op one two", "bound_of": "marks number", "worth_of": "marks number host words",
+        "takes": "form translation",
+    },
 }
 
 

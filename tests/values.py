@@ -29,6 +29,14 @@ def number(n):
 
 
 STATE = ((number(0),) * 8, (number(0),) * 16, ((0, 0),) * 4, (0, 64))
+TABLE = ((STATE[:3] + (GRANT[:2],)), ((number(1),) + STATE[0][1:],) + STATE[1:3] + (GRANT[:2],))
+
+START = ((None,) * 8, (None,) * 16, (None,) * 4)
+FORM = (0, 1, (("number", 1),), (START, (((0,) + (None,) * 7),) + START[1:]), ("on",))
+EXIT = (1, "end", 1, None, (("number", 1),) + (None,) * 7) + START[1:]
+TRANSLATION = ((("most", 0, 1), ("leave", 0)), (EXIT, (0, "most", 0, None) + START))
+HOST = (tuple(range(12)), tuple(range(112)))
+MARKS = (("number", 4294967295), ("cell", 11), ("box", 111), ("got", 79), ("add", 0, 3))
 
 
 def put(row, index, value):
