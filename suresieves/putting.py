@@ -49,8 +49,6 @@ def swapped_parts(parts, k, j):
 
 def effect_with(effect, k, j):
     """An effect with j put for k."""
-    if k not in values_named(effect):
-        return effect
     fields = EFFECT_FIELDS[effect[0]]
     parts = [swapped(part, k, j) if kind == "value" else part for kind, part in zip(fields, effect[1:])]
     return (effect[0],) + tuple(parts)

@@ -165,7 +165,7 @@ class TestIsForm(unittest.TestCase):
                 for value, good in ((None, True), (0, part != 2), (1, True), (2, part != 2), (3, True), (4, False), (5, False), (6, False)):
                     form = form_with(effects, boundaries=(START, put(START, part, put(START[part], at, value))))
                     (self.yes if good else self.no)(form)
-                for value in STRANGE[1:] + (-1, 80):
+                for value in STRANGE[1:] + (-1, -3, -4, 80):
                     self.no(form_with(effects, boundaries=(START, put(START, part, put(START[part], at, value)))))
             for parts in ((None,) * (many - 1), (None,) * (many + 1), [None] * many, None, 0, ()):
                 self.no(form_with(effects, boundaries=(START, put(START, part, parts))))
@@ -197,10 +197,11 @@ class TestIsForm(unittest.TestCase):
             (), ("off",), ("on", 0), ["on"], ("jump",), ("jump", -1), ("jump", 120), ("jump", 0, 0), ("jump", True),
             ("when", "same", 0, 2), ("when", "same", 0, 2, 0, 0), ("when", "less", 0, 2, 0), ("when", 0, 0, 2, 0),
             ("when", "same", 1, 2, 0), ("when", "same", 0, 3, 0), ("when", "same", 4, 0, 0), ("when", "same", -1, 0, 0),
-            ("when", "same", None, 0, 0), ("when", "same", 0, 0, 120), ("when", "same", 0, 0, None), ("whenn", "same", 0, 0, 0),
+            ("when", "same", None, 0, 0), ("when", "same", -2, 0, 0), ("when", "same", 0, -4, 0),
+            ("when", "same", 0, 0, 120), ("when", "same", 0, 0, -1), ("when", "same", 0, 0, None), ("whenn", "same", 0, 0, 0),
             ("again", 4, 1, 0), ("again", -1, 1, 0), ("again", 0, 0, 0), ("again", 0, 101, 0), ("again", 0, 1, 120),
             ("again", 0, 1, -1), ("again", 0, 1), ("again", 0, 1, 0, 0), ("again", True, 1, 0), ("again", 0, True, 0),
-            ("answer",), ("answer", 1), ("answer", 3), ("answer", 4), ("answer", -1), ("answer", None), ("answer", True),
+            ("answer",), ("answer", 1), ("answer", 3), ("answer", 4), ("answer", -1), ("answer", -2), ("answer", None), ("answer", True),
             ("answer", 0, 0), ("answer", "0"), ("when", ["same"], 0, 0, 0), (["on"],),
         )))
 

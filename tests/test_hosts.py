@@ -111,6 +111,9 @@ class TestIsTranslation(unittest.TestCase):
             self.yes(*(skipping(n, behind) for n in range(1, behind)))
             self.no(*(skipping(n, behind) for n in (-1, 0, behind, behind + 1, 10 ** 30, None, True, "1")))
         self.no(skipping(1, 1))
+        ahead = (("set", 0, 0),) * 5
+        self.yes(translation(*ahead, ("skip", 0, 2), ("set", 0, 0), ("set", 0, 0)))
+        self.no(translation(*ahead, ("skip", 0, 3), ("set", 0, 0), ("set", 0, 0)), translation(*ahead, ("skip", 0, 1)))
         for cell in (-1, 12, None, True):
             self.no(translation(("skip", cell, 1), ("set", 0, 0)))
         self.no(translation(("skip", 0, 1, 0), ("set", 0, 0)), translation(("skip", 0), ("set", 0, 0)))
@@ -263,6 +266,7 @@ class TestReaching(unittest.TestCase):
         for number, word in ((9, 9), (65535, 65535), (65536, 0), (TOP, 65535), (65536 * 5 + 7, 7)):
             self.changes(("fill", 0, 0, 1), (1, number), tables=put(TABLES, 0, ("array", 1, (5, word, 0))))
         self.changes(("grow", 0, 0), (0,), tables=put(TABLES, 0, ("array", 1, (6, 65535, 0))))
+        self.changes(("grow", 3, 0), (9, 9, 9, 2), tables=put(TABLES, 0, ("array", 1, (5, 65535, 1))))
         self.changes(("grow", 0, 0), (1,), tables=put(TABLES, 0, ("array", 1, (5, 0, 0))))
 
     def test_pairs(self):

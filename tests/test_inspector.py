@@ -238,6 +238,24 @@ class TestToldTable(unittest.TestCase):
         rows = (("length", 0),) + tuple(("whenn", "same", 0, n, 7) for n in range(6)) + (("answer", 0),)
         self.assertEqual(told_table(rows, WIDE)[7][0][0][:2], (0, 64))
 
+    def test_what_falls_and_what_length_is_made_wide(self):
+        # Three less in each round, down to 7: from 19 in the fourth one, from 20 in the fifth one.
+        for start, low in ((19, 7), (20, 0), (50, 0)):
+            sieve = (("set", 1, start), ("whenn", "below", 1, 10, 4), ("addn", 1, 65533), ("again", 0, 100, 1), ("answer", 1))
+            table = told_table(sieve, WIDE)
+            self.assertEqual(table, slow_told(sieve, WIDE)[0])
+            self.assertEqual(table[1][0][1][:2], (low, start))
+        # Behind place 7 the loop is entered in its midst, in the fifth round alone, by longer packets.
+        sieve = (
+            ("length", 0), ("whenn", "from", 0, 60, 13), ("begin", 0), ("addn", 1, 1), ("again", 0, 50, 3),
+            ("whenn", "below", 0, 4, 9), ("whenn", "below", 1, 9, 13), ("jump", 10), ("answer", 0), ("set", 3, 0), ("set", 4, 0),
+            ("again", 1, 2, 9), ("answer", 1), ("answer", 0),
+        )
+        table = told_table(sieve, WIDE)
+        self.assertEqual(table, slow_told(sieve, WIDE)[0])
+        self.assertEqual((table[5][3], table[7][3], table[9][3]), ((0, 59), (4, 59), (0, 64)))
+        self.assertEqual((told_table(sieve, (2, 64, 0, ()))[9][3], told_table(sieve, (0, 61, 0, ()))[9][3]), ((2, 64), (0, 61)))
+
     def test_by_the_second_way(self):
         chance = random.Random(29)
         longest, wide = 0, 0

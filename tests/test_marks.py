@@ -45,9 +45,9 @@ class TestMarks(unittest.TestCase):
                 self.assertEqual(caught.exception.index, index)
 
     def test_wrong(self):
-        for mark in STRANGE + ((), number(-1), number(TOP + 1), ("cell", 12), ("cell", -1), ("box", 112), ("got", 80), ("got", -1),
+        for mark in STRANGE + ((), number(-1), number(TOP + 1), ("cell", 12), ("cell", -1), ("box", 112), ("box", -1), ("got", 80), ("got", -1),
                                ("number",), ("number", 0, 0), ("number", True), ("cell", None), ("got", "0"), ("slot", 0), ("add", 0),
-                               ("add", 0, 2), ("add", 2, 0), ("add", -1, 0), ("add", 0, True), ("add", 0, 0, 0), ("mix", 0, 0),
+                               ("add", 0, 2), ("add", 2, 0), ("add", -1, 0), ("add", 0, -1), ("add", 0, True), ("add", 0, 0, 0), ("mix", 0, 0),
                                ("addn", 0, 0), (("add",), 0, 0), ["box", 2], ("when", 0, 0)):
             self.wrong((WORD, COUNT, mark), 2)
             self.wrong((WORD, COUNT, mark, 0), 2)

@@ -157,6 +157,7 @@ class TestReckonedKnown(unittest.TestCase):
         self.check("left", known(5, 20), number(2), known(20, 80, 3, 0))
         self.check("left", known(5, 20), number(18), known(20, 80, 3, 0))
         self.check("left", known(5, 20), number(16), known(5, 20))
+        self.check("left", known(5, 65535), number(0), known(5, 65535))
         self.check("left", known(0, 4095), number(4), known(0, 65520, 15, 0))
         self.check("left", known(0, 4096), number(4), known(0, 65535, 15, 0))
         self.check("left", known(1, 16383, 4099, 4097, 5, 6, 2), number(2), known(4, 65532, 16399, 16388))

@@ -150,7 +150,8 @@ class TestPlainSteps(StepCase):
         boundaries = tuple(told({0: 2, 2: 3}, {2: 2, 15: 2}, {2: 1}) if number in (2, 9, 12) else START for number in range(13))
         replaced = tuple(told({0: 0, 2: 3}, {2: 0, 15: 0}, {2: 1}) if number in (2, 9, 12) else START for number in range(13))
         for end, ended in (
-            (("when", "same", 2, 2, 2), ("when", "same", 0, 0, 2)), (("answer", 2), ("answer", 0)),
+            (("when", "same", 2, 2, 2), ("when", "same", 0, 0, 2)), (("when", "same", 2, 3, 2), ("when", "same", 0, 3, 2)),
+            (("when", "same", 3, 2, 2), ("when", "same", 3, 0, 2)), (("answer", 2), ("answer", 0)),
             (("again", 2, 2, 2), ("again", 2, 2, 2)), (("jump", 2), ("jump", 2)),
         ):
             self.takes((0, 12, effects, boundaries, end), ("itself", 2), (0, 12, behind, replaced, ended))
@@ -270,6 +271,8 @@ class TestTold(StepCase):
             self.keeps((head, 0, 2, 0), (head, 0, 3, 0))
             self.keeps((head, 0, 2, 0), (head, 1, 2, 0))
             self.keeps((head, 2, 2, 0), (head, 4, 2, 0))
+            # What would be the same sum of a packet place is another table.
+            self.keeps((head, 2, 2, 0), (head, 4, 1, 0))
             for other in ("cell", "find", "value"):
                 if other != head:
                     self.keeps((head, 0, 2, 0), (other, 0, 2, 0))
@@ -308,6 +311,7 @@ class TestTold(StepCase):
                 self.keeps((head, 0, 2, 0), changed(2, 2), (head, 0, 2, 0))
                 self.tells((head, 0, 2, 0), changed(0, 3), (head, 0, 2, 0))
                 self.tells((head, 2, 2, 0), changed(4, 2), (head, 3, 2, 0))
+                self.tells((head, 2, 0, 0), changed(4, 0), (head, 3, 0, 0))
                 self.keeps((head, 2, 2, 0), changed(3, 2), (head, 2, 2, 0))
                 self.keeps((head, 2, 2, 0), changed(0, 2), (head, 2, 2, 0))
                 self.keeps((head, 2, 2, 0), changed(4, 2), changed(0, 3), changed(3, 2), (head, 2, 2, 0))
