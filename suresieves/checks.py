@@ -11,6 +11,11 @@ def is_between(value, least, most):
     return is_whole(value) and least <= value <= most
 
 
+def is_from_nought(value):
+    """Whether a value is a whole number from 0 on."""
+    return is_whole(value) and value >= 0
+
+
 def is_word(value):
     """Whether a value is a word."""
     return is_between(value, 0, 65535)
@@ -42,6 +47,19 @@ def first_bad(values, is_good):
         if not is_good(value):
             return index
     return None
+
+
+def is_same(value, known):
+    """Whether a value is just this one of whole numbers, texts, None and tuples of these."""
+    if isinstance(known, tuple):
+        if not isinstance(value, tuple) or len(value) != len(known):
+            return False
+        return all(is_same(one, two) for one, two in zip(value, known))
+    if isinstance(known, str):
+        return isinstance(value, str) and value == known
+    if known is None:
+        return value is None
+    return is_whole(value) and value == known
 
 
 def is_stretch(value, most):

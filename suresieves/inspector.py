@@ -31,6 +31,11 @@ def does_take(sieve, grant, table):
     return not flaws_in(sieve) and is_table_taken(sieve, grant, table)
 
 
+def places_sure(sieve, table):
+    """The places of rows that a taken table shows not to fault, ascending."""
+    return tuple([place for place, row in enumerate(sieve) if row[0] in REACHING and table[place] is not None])
+
+
 def flaws(sieve):
     """All flaws of a sieve, ascending."""
     need_sieve(sieve)
@@ -79,4 +84,4 @@ def sure_places(sieve, grant, table):
     need_table(table, sieve)
     if not does_take(sieve, grant, table):
         raise NotTaken()
-    return tuple([place for place, row in enumerate(sieve) if row[0] in REACHING and table[place] is not None])
+    return places_sure(sieve, table)

@@ -73,17 +73,22 @@ def sieve_of(listing):
     return tuple(rows)
 
 
-def read_listing(writing):
-    """The listing that a writing tells."""
-    if not isinstance(writing, str):
-        raise InvalidWriting(None, None)
+def listing_in(texts):
+    """The listing that texts tell, line by line."""
     lines = []
-    for number, text in enumerate(writing.split("\n")):
+    for number, text in enumerate(texts):
         if number == MOST_LINES:
             words = line_words(text)
             raise InvalidWriting(number, words[0][0] if words else len(text))
         lines.append(read_line(number, text))
     return tuple(lines)
+
+
+def read_listing(writing):
+    """The listing that a writing tells."""
+    if not isinstance(writing, str):
+        raise InvalidWriting(None, None)
+    return listing_in(writing.split("\n"))
 
 
 def show_listing(listing):

@@ -42,6 +42,12 @@ def run_left(run, told, host):
     ) + run[4:7] + (run[7] + many, end, run[9])
 
 
+def run_passed(translation, run, most):
+    """The number of the exit by which a translation is left, entered from a run, and the run then."""
+    host, changed, x = host_gone(translation, host_entered(run), run, most)
+    return x, run_left(changed, translation[1][x], host)
+
+
 def entered(run):
     """The HOST when it is entered from a run, all other boxes and cells being 0."""
     need_run(run)
@@ -63,5 +69,4 @@ def passed(translation, run, most):
     need_translation(translation)
     need_run(run)
     need_most(most)
-    host, changed, x = host_gone(translation, host_entered(run), run, most)
-    return x, run_left(changed, translation[1][x], host)
+    return run_passed(translation, run, most)

@@ -1,16 +1,11 @@
 """Rewritings: forms led to others that do the same."""
 
-from suresieves.checks import first_bad, is_between, is_whole
+from suresieves.checks import first_bad, is_between, is_from_nought
 from suresieves.effects import CHANGES, READINGS, is_sure
 from suresieves.errors import InvalidKept, InvalidStep, InvalidSteps, InvalidSure
 from suresieves.forms import need_form
 from suresieves.putting import all_named
 from suresieves.rewriting import STEP_NUMBERS, all_steps, form_taken, led_form, made_better
-
-
-def is_from_nought(value):
-    """Whether a value is a whole number from 0 on."""
-    return is_whole(value) and value >= 0
 
 
 def is_step(value):

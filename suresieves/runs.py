@@ -1,7 +1,7 @@
 """Rows, sieves and runs: the plain machine."""
 
-from suresieves.checks import are_all, first_bad, is_between, is_flag, is_one_of, is_tuple
-from suresieves.checks import is_whole, is_word
+from suresieves.checks import are_all, first_bad, is_between, is_flag, is_from_nought, is_one_of, is_tuple
+from suresieves.checks import is_word
 from suresieves.doing import next_fault, stepped
 from suresieves.errors import InvalidName, InvalidNumber, InvalidRow, InvalidRun, InvalidSieve
 from suresieves.packets import are_tables, is_packet, need_grant, need_packet, need_tables
@@ -49,7 +49,7 @@ def run_parts(value):
         is_packet(value[4]),
         are_tables(value[5]),
         is_word(value[6]),
-        is_whole(value[7]) and value[7] >= 0,
+        is_from_nought(value[7]),
         is_end(value[8]),
         is_flag(value[9]),
     )
@@ -96,13 +96,18 @@ def need_steps(steps):
         raise InvalidNumber(steps)
 
 
+def begun_run(packet, tables, clock, writable):
+    """The begun run, all arguments being right."""
+    return (0,) * 8, (0,) * 16, (0,) * 4, 0, packet, tables, clock, 0, None, writable
+
+
 def begun(packet, tables, clock, writable):
     """The begun run."""
     need_packet(packet)
     need_tables(tables)
     need_word(clock)
     need_writable(writable)
-    return (0,) * 8, (0,) * 16, (0,) * 4, 0, packet, tables, clock, 0, None, writable
+    return begun_run(packet, tables, clock, writable)
 
 
 def is_begun(run):

@@ -5,8 +5,9 @@ import inspect
 import unittest
 from itertools import combinations
 
-from suresieves import blocks, compiling, errors, forms, hosts, inspector, judge, known, listings, maps, packets
-from suresieves import rewritings, runs, sources, ways
+from suresieves import blocks, certificates, chains, compiling, console, errors, flows, forms, hosts, inspector, judge
+from suresieves import known, listings, making, maps, packets, rewritings, runners, runs, snapshots, sources, ways
+from tests.flowvalues import PASSING, SENDING, flow
 from tests.values import ANY, EXIT, FORM, GRANT, HOST, LISTING, MARKS, NO_NUMBERS, NO_TUPLES, PACKET, RUN, SIEVE
 from tests.values import SOURCE, STATE, STRANGE, TABLE, TABLES, TRANSLATION, put
 
@@ -80,6 +81,30 @@ BAD_WORDS_READ = [(value, {"index": None}) for value in NO_TUPLES] + [
     ((1, 2, value, -1), {"index": 2}) for value in NO_NUMBERS + (-1, 65536, LONG)
 ]
 
+NOT_COMING = ((-1, ()), (65536, ()), (0, (256,)), (0, (0,) * 257), (0,), (0, (), ()), [0, ()], (0, [0]))
+NO_DEEDS = tuple(value for value in STRANGE if value != ()) + (
+    0, ("cell", 6, 0, 0), ("cell", 0, 32, 0), ("off", 0), ("exchange", 4, PASSING), ("exchange", 0, PASSING[:2]), ("drop", 0, 120),
+    ("make", 4, 0), ("clear", 0), ["cut"], ("settings", (1,) * 8), ("step",),
+)
+BAD_CELLS = given(*NO_NUMBERS, -1, 3, 13, LONG)
+BAD_CHAINS = [(value, {"index": None}) for value in NO_TUPLES + ((), (PASSING,) * 5)] + [
+    ((PASSING, value, None), {"index": 1}) for value in STRANGE + ((), PASSING[:2], put(PASSING, 2, (None, None)))
+]
+BAD_COMING = [(value, {"index": None}) for value in NO_TUPLES + (((0, ()),) * 51,)] + [
+    (((0, ()), (65535, (255,)), value, 0), {"index": 2}) for value in STRANGE + NOT_COMING
+]
+BAD_DEEDS = [(value, {"index": None}) for value in NO_TUPLES + (((0, ("cut",)),) * 51,)] + [
+    (((3, ("cut",)), (4, ("clear",)), (4, value), 0), {"index": 2}) for value in NO_DEEDS
+] + [(((3, ("cut",)), value, 0), {"index": 1}) for value in STRANGE + ((), (3, ("cut",), 0), (2, ("cut",)), (True, ("cut",)), (-1, ("cut",)))]
+BAD_DEEDS_OF_ONE = given(*NO_DEEDS, (), (0, ("cut",)))
+SETTINGS = (12, 8, 0, 1, 1, 2, 8, 0, 0)
+BAD_SETTINGS = given(*STRANGE, (), 0, SETTINGS[:8], SETTINGS + (0,), put(SETTINGS, 0, 13), put(SETTINGS, 8, True), list(SETTINGS))
+BAD_CLAIMED_STEPS = given(*NO_NUMBERS, -1, 401, LONG)
+BAD_SNAPSHOTS = [(value, {"line": None}) for value in STRANGE + ((), 0) if not isinstance(value, str)] + [("", {"line": 0})]
+BAD_LINES = [(value, {"line": None, "place": None}) for value in NO_TUPLES + (("show",) * 101, ("show", None), (b"show",), ("show", 0), ((),))]
+FLOW = flow((PASSING, SENDING), ((1,), (2,)))
+RUNNER = runners.started(FLOW, SETTINGS)
+
 SIEVE_ARG = (SIEVE, "InvalidSieve", BAD_SIEVES)
 PACKET_ARG = (PACKET, "InvalidPacket", BAD_PACKETS)
 TABLES_ARG = (TABLES, "InvalidTables", BAD_TABLES)
@@ -105,6 +130,16 @@ TRANSLATION_ARG = (TRANSLATION, "InvalidTranslation", BAD_TRANSLATIONS)
 HOST_ARG = (HOST, "InvalidHost", BAD_HOSTS)
 MARKS_ARG = (MARKS, "InvalidMarks", BAD_MARKS)
 MARK_ARG = (4, "InvalidNumber", BAD_MARK_NUMBERS)
+CELLS_ARG = (4, "InvalidNumber", BAD_CELLS)
+CHAIN_ARG = ((PASSING, SENDING), "InvalidChain", BAD_CHAINS)
+COMING_ARG = (((9, (3,)),), "InvalidComing", BAD_COMING)
+DEEDS_ARG = (((0, ("cell", 0, 0, 1)), (3, ("exchange", 1, PASSING)), (3, ("cut",))), "InvalidDeeds", BAD_DEEDS)
+DEED_ARG = (("make", 0, 0), "InvalidDeed", BAD_DEEDS_OF_ONE)
+SETTINGS_ARG = (SETTINGS, "InvalidSettings", BAD_SETTINGS)
+# What is as this package tells it is never wrong.
+FLOW_ARG = (FLOW, None, [])
+RUNNER_ARG = (RUNNER, None, [])
+CONSOLE_ARG = (console.fresh_console(), None, [])
 
 # For each function its parameters in order: a right value, the error, wrong values and what it keeps.
 FUNCTIONS = {
@@ -173,12 +208,50 @@ FUNCTIONS = {
         "marks": MARKS_ARG, "number": MARK_ARG, "host": HOST_ARG, "words": ((7,), "InvalidWords", BAD_WORDS_READ),
     },
     judge.takes: {"form": FORM_ARG, "translation": TRANSLATION_ARG},
+    making.made: {"form": FORM_ARG, "cells": CELLS_ARG},
+    flows.link_of: {"sieve": SIEVE_ARG, "grant": GRANT_ARG},
+    flows.flow_of: {"chain": CHAIN_ARG, "tables": TABLES_ARG, "coming": COMING_ARG},
+    flows.fed: {"flow": FLOW_ARG, "coming": COMING_ARG},
+    flows.dealt: {"flow": FLOW_ARG, "deed": DEED_ARG},
+    flows.flowed: {"flow": FLOW_ARG, "deeds": DEEDS_ARG, "steps": STEPS_ARG},
+    flows.tables_of: {"flow": FLOW_ARG},
+    flows.steps_left: {"flow": FLOW_ARG},
+    flows.free_steps: {"flow": FLOW_ARG, "deeds": DEEDS_ARG, "steps": STEPS_ARG},
+    chains.joined: {"first": SIEVE_ARG, "second": SIEVE_ARG},
+    runners.started: {"flow": FLOW_ARG, "settings": SETTINGS_ARG},
+    runners.shown: {"runner": RUNNER_ARG},
+    runners.tally: {"runner": RUNNER_ARG},
+    runners.kept: {"runner": RUNNER_ARG},
+    runners.links: {"runner": RUNNER_ARG},
+    runners.leap: {"runner": RUNNER_ARG, "deeds": DEEDS_ARG, "steps": STEPS_ARG},
+    runners.led: {"runner": RUNNER_ARG, "deeds": DEEDS_ARG, "steps": STEPS_ARG},
+    runners.deeded: {"runner": RUNNER_ARG, "deed": DEED_ARG},
+    runners.fed_runner: {"runner": RUNNER_ARG, "coming": COMING_ARG},
+    runners.tale: {"runner": RUNNER_ARG, "deeds": DEEDS_ARG, "steps": STEPS_ARG},
+    snapshots.write_snapshot: {"run": RUN_ARG},
+    snapshots.read_snapshot: {"writing": (snapshots.write_snapshot(RUN), "InvalidSnapshot", BAD_SNAPSHOTS)},
+    console.fresh_console: {},
+    console.said: {"console": CONSOLE_ARG, "line": ("grant 0 0 0", "InvalidWriting", BAD_WRITINGS)},
+    console.told_all: {"console": CONSOLE_ARG, "lines": (("show", ""), "InvalidWriting", BAD_LINES)},
+    certificates.certify_meant: {"source": SOURCE_ARG, "packet": PACKET_ARG, "tables": TABLES_ARG, "clock": WORD_ARG},
+    certificates.certify_compiled: {"source": SOURCE_ARG, "grant": GRANT_ARG},
+    certificates.certify_verdict: {"sieve": SIEVE_ARG, "grant": GRANT_ARG},
+    certificates.certify_form: {"sieve": SIEVE_ARG, "place": PLACE_ARG, "limit": LIMIT_ARG},
+    certificates.certify_better: {"form": FORM_ARG, "kept": ((0, 119), "InvalidKept", BAD_SURE), "sure": SURE_ARG},
+    certificates.certify_translation: {"form": FORM_ARG, "cells": CELLS_ARG},
+    certificates.certify_passed: {"translation": TRANSLATION_ARG, "run": RUN_ARG, "most": MOST_ARG},
+    certificates.certify_flow: {
+        "chain": CHAIN_ARG, "tables": TABLES_ARG, "coming": COMING_ARG, "settings": SETTINGS_ARG, "deeds": DEEDS_ARG,
+        "steps": (3, "InvalidNumber", BAD_CLAIMED_STEPS),
+    },
+    certificates.certify_joined: {"first": SIEVE_ARG, "second": SIEVE_ARG},
 }
 
 QUESTIONS = (
     packets.is_packet, packets.is_table, packets.are_tables, packets.is_grant,
     runs.is_row, runs.is_sieve, runs.is_run, sources.is_source, listings.is_listing,
     known.is_known, known.is_known_state, forms.is_form, rewritings.is_step, hosts.is_host, hosts.is_translation,
+    flows.is_link, flows.are_settings,
 )
 
 
@@ -223,7 +296,8 @@ class TestArguments(unittest.TestCase):
 
     def test_first_in_the_order_of_the_signature(self):
         for function, parameters in FUNCTIONS.items():
-            for first, second in combinations(parameters, 2):
+            checked = [name for name in parameters if parameters[name][2]]
+            for first, second in combinations(checked, 2):
                 with self.subTest(function=function.__name__, first=first, second=second):
                     _, error, wrong = parameters[first]
                     other = parameters[second][2][0][0]
@@ -243,6 +317,17 @@ class TestArguments(unittest.TestCase):
             ("NotThere", forms.at_boundary, (ended, FORM, 1)), ("InvalidNumber", forms.at_boundary, (ended, FORM, 2)),
             ("NotTaken", inspector.sure_places, (SIEVE, GRANT, (None, None))),
             ("InvalidTable", inspector.sure_places, (SIEVE, GRANT, (None, 0))),
+            ("TooMany", flows.fed, (flows.fed(FLOW, ((0, ()),) * 49), ((0, ()),))),
+            ("InvalidComing", flows.fed, (flows.fed(FLOW, ((0, ()),) * 49), ((0, ()), None))),
+            ("TooMany", runners.fed_runner, (runners.fed_runner(RUNNER, ((0, ()),) * 49), ((0, ()),))),
+            ("InvalidComing", runners.fed_runner, (runners.fed_runner(RUNNER, ((0, ()),) * 49), ((0, ()), None))),
+            ("TooMany", chains.joined, (SIEVE * 60, SIEVE)), ("InvalidSieve", chains.joined, (SIEVE * 60, ())),
+            ("NoBlock", certificates.certify_form, (SIEVE, 2, 12)), ("InvalidNumber", certificates.certify_form, (SIEVE, 2, 13)),
+            ("NoSuchTable", certificates.certify_meant, ((("count", 4, ("number", 0)),), PACKET, TABLES, 0)),
+            ("InvalidNumber", certificates.certify_meant, ((("count", 4, ("number", 0)),), PACKET, TABLES, 65536)),
+            ("NotServed", certificates.certify_compiled, ((("count", 4, ("number", 0)),), GRANT)),
+            ("TooMany", certificates.certify_compiled, ((("answer", ("pair", ("number", 0))),) * 12, GRANT)),
+            ("TooMany", certificates.certify_joined, (SIEVE * 60, SIEVE)),
         ):
             with self.assertRaises(getattr(errors, error)):
                 function(*arguments)

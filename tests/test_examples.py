@@ -129,9 +129,90 @@ JUDGE = r"""
 [65635, 4102, 7, 0, True, False]
 """
 
+MAKING = r"""
+>>> from suresieves.making import made
+>>> from suresieves.forms import form_of
+>>> sieve = (("set", 1, 12), ("byte", 2, 1, 0), ("addn", 2, 1), ("keep", 2, 0), ("whenn", "same", 2, 7, 6), ("answer", 2), ("answer", 1))
+>>> form, end = form_of(sieve, 0, 12), form_of(sieve, 5, 12)
+>>> few, last = made(form, 4), made(end, 4)
+>>> [takes(form, few), takes(end, last), takes(tiny, made(tiny, 4)), takes(end, few)]
+[True, True, True, False]
+>>> running = ((0,) * 8, (0,) * 16, (0,) * 4, 0, (0,) * 12 + (6,), (), 0, 0, None, 0)
+>>> [few[1][passed(few, running, most)[0]][:2] for most in (0, 2, 5, 12)]
+[(0, 'most'), (2, 'most'), (5, 'end'), (5, 'end')]
+>>> number, after = passed(few, running, 12)
+>>> [after[0][:3], after[1][0], after[3], after[7], few[1][passed(few, running[:4] + ((0,) * 12,) + running[5:], 12)[0]][:3], passed(last, after[:3] + (5,) + after[4:], 1)[1][8]]
+[(0, 12, 7), 7, 6, 5, (1, 'fault', 1), ('answer', 7)]
+"""
+
+FLOWS = r"""
+>>> from suresieves.flows import are_deeds, are_settings, fed, flow_of, flowed, free_steps, is_link, link_of, tables_of
+>>> kinds = (("array", 1, 2),)
+>>> look = (("length", 0), ("whenn", "below", 0, 3, 7), ("set", 1, 0), ("byte", 2, 1, 2), ("whenn", "same", 2, 7, 9), ("addn", 2, 100), ("answer", 2), ("set", 3, 0), ("answer", 3), ("count", 0, 1), ("set", 3, 1), ("answer", 3))
+>>> mark = (("set", 0, 0), ("set", 1, 9), ("write", 1, 0, 0), ("set", 2, 1), ("count", 0, 2), ("answer", 2))
+>>> chain = (link_of(look, (0, 10, 0, kinds)), link_of(mark, (3, 10, 1, kinds)))
+>>> [is_link(chain[0]), is_link(chain[0][:2]), link_of(mark, (0, 10, 1, kinds)), link_of(mark, (3, 10, 0, kinds))]
+[True, False, None, None]
+>>> flow = flow_of(chain, (("array", 1, (0, 0)),), ((0, (1, 2)), (0, (1, 2, 7)), (0, (1, 2, 5))))
+>>> end = flowed(flow, (), 100)
+>>> [end[3], end[4], end[5], end[2], flow[1], flow[2][:2]]
+[(('dropped', 0), ('passed', (9, 2, 7)), ('sent', 0, 105, (1, 2, 5))), ((1, 1, 1, 0, 19), (1, 0, 0, 0, 6)), 25, ('still', (('array', 1, (1, 1)),)), ((0, (1, 2, 7)), (0, (1, 2, 5))), ('run', 0)]
+>>> [tables_of(flowed(flow, ((9, ("cell", 0, 0, 5)),), 100)), tables_of(flowed(flow, ((10, ("cell", 0, 0, 5)),), 100)), flowed(flow, ((5, ("exchange", 0, chain[1])),), 100) == end, flowed(flow, ((5, ("exchange", 1, chain[0])),), 100)[3][1]]
+[(('array', 1, (6, 1)),), (('array', 1, (5, 1)),), True, ('passed', (1, 2, 7))]
+>>> [free_steps(flow, ((0, ("cut",)), (3, ("clear",))), 100), free_steps(end, (), 9), fed(end, ((0, (4,)),))[2][:2], are_deeds(((3, ("clear",)), (0, ("cut",)))), are_settings((12, 8, 0, 1, 1, 2, 8, 0, 0))]
+[3, 0, ('run', 0), False, True]
+"""
+
+CHAINS = r"""
+>>> from suresieves.chains import joined
+>>> both = joined((("set", 1, 1), ("answer", 1)), (("answer", 0),))
+>>> [both[:3], len(both), answer_of(both, begun((), (), 0, 0)), run_on(both, begun((), (), 0, 0), 100)[7], joined((("jump", 1), ("answer", 0)), both)[0]]
+[(('set', 1, 1), ('whenn', 'same', 1, 1, 3), ('answer', 1)), 32, ('answer', 0), 31, ('jump', 1)]
+"""
+
+RUNNERS = r"""
+>>> from suresieves.runners import is_runner, kept, leap, led, links, shown, started, tale, tally
+>>> settings = (12, 8, 0, 1, 1, 2, 8, 0, 0)
+>>> through = led(started(flow, settings), (), 100)
+>>> [shown(through) == end, tally(through), is_runner(end, through), is_runner(flow, through), links(through)]
+[True, (0, 25, 6, 9, 1, 0, 0), True, False, ((1, 7, 2), (1, 2, 3), (3, 9, 4), (3, 5, 6))]
+>>> kept(through)
+((1, 0, 0, 2), (2, 0, 7, 2), (3, 0, 2, 3), (4, 0, 9, 3), (5, 1, 0, 6), (6, 0, 5, 2))
+>>> tale(started(flow, settings), (), 5)
+(('made', 1, 0, 0, 2), ('entered', 1, 0, 2, 'end'), ('made', 2, 0, 7, 2), ('linked', 1, 7, 2), ('entered', 2, 2, 2, 'end'), ('step', 4, 0, 0))
+>>> [tale(started(flow, (12, 8, 0, 1, 1, 1, 8, 0, 0)), (), 1), tale(through, ((25, ("clear",)),), 9)]
+[(('made', 1, 0, 0, 2), ('entered', 1, 0, 1, 'most')), ()]
+"""
+
+SNAPSHOTS = r"""
+>>> from suresieves.snapshots import read_snapshot, write_snapshot
+>>> write_snapshot(flow[2][2]).splitlines()
+['steps 0', 'place 0', 'end none', 'clock 0', 'writable 0', 'registers 8*0', 'slots 16*0', 'counters 4*0', 'packet 1 2', 'array 1: 2*0']
+>>> read_snapshot(write_snapshot(flow[2][2])) == flow[2][2]
+True
+>>> read_snapshot("steps 0\nplace 00")
+raises InvalidSnapshot(line=1)
+"""
+
+CONSOLE = r"""
+>>> from suresieves.console import fresh_console, said, told_all
+>>> lines = ("grant 0 64 0 array 1 2", "source if byte 0 = 7 then count cell 0 0 answer 1 end count cell 0 1 answer 0", "link", "table array 1 0 0")
+>>> console, answers = told_all(fresh_console(), lines)
+>>> answers
+('granted', '20 rows, let by, at most 20 steps', 'link 0', 'table 0')
+>>> later, answers = told_all(console, ("packet 0 7 1", "packet 0 9", "packet 0", "both 1000", "verdicts", "counts", "tables", "tally"))
+>>> answers[:5]
+('1 wait', '2 wait', '3 wait', 'the same, 35 steps, 3 through, still', '0: passed 7 1\n1: dropped by 0\n2: dropped by 0')
+>>> answers[5:7]
+('0: 1 passed, 2 dropped, 0 sent, 0 left out, 35 steps', '0: array 1: 1 2')
+>>> [said(later, "back")[1], said(later, "go")[1], said(fresh_console(), "go 5")[1], said(fresh_console(), "source answer ( 1 +")[1], said(fresh_console(), "sieve jump 0")[1], said(fresh_console(), "sieve pair r0 r1 3 / answer r0")[1]]
+['back', 'not understood', 'no chain', 'not read at 12', '1 rows, flaw at 0: far', '2 rows, open at 0: packet']
+"""
+
 
 class TestExamples(SessionCase):
     def test_sessions(self):
         names = {}
-        for text in (RUNS, SOURCES, COMPILING, LISTINGS, INSPECTOR, FORMS, REWRITINGS, MAPS, JUDGE):
+        for text in (RUNS, SOURCES, COMPILING, LISTINGS, INSPECTOR, FORMS, REWRITINGS, MAPS, JUDGE, MAKING,
+                     FLOWS, CHAINS, RUNNERS, SNAPSHOTS, CONSOLE):
             self.go_through(text, names)

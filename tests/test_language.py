@@ -71,6 +71,27 @@ INTERFACE = {
         "made_mark": "marks op one two", "bound_of": "marks number", "worth_of": "marks number host words",
         "takes": "form translation",
     },
+    "making": {"made": "form cells"},
+    "flows": {
+        "link_of": "sieve grant", "is_link": "value", "are_deeds": "value", "are_settings": "value",
+        "flow_of": "chain tables coming", "fed": "flow coming", "dealt": "flow deed", "flowed": "flow deeds steps",
+        "tables_of": "flow", "steps_left": "flow", "free_steps": "flow deeds steps",
+    },
+    "chains": {"joined": "first second"},
+    "runners": {
+        "started": "flow settings", "is_runner": "flow value", "shown": "runner", "tally": "runner", "kept": "runner",
+        "links": "runner", "leap": "runner deeds steps", "led": "runner deeds steps", "deeded": "runner deed",
+        "fed_runner": "runner coming", "tale": "runner deeds steps",
+    },
+    "snapshots": {"write_snapshot": "run", "read_snapshot": "writing"},
+    "console": {"fresh_console": "", "said": "console line", "told_all": "console lines"},
+    "checker": {"accepts": "claim paper"},
+    "certificates": {
+        "certify_meant": "source packet tables clock", "certify_compiled": "source grant",
+        "certify_verdict": "sieve grant", "certify_form": "sieve place limit", "certify_better": "form kept sure",
+        "certify_translation": "form cells", "certify_passed": "translation run most",
+        "certify_flow": "chain tables coming settings deeds steps", "certify_joined": "first second",
+    },
 }
 
 
@@ -209,6 +230,39 @@ class TestForm(unittest.TestCase):
                     self.assertTrue(all(isinstance(part, plain) for part in ast.walk(node.value)), path.name)
                     inner = [part for part in ast.walk(node.value) if isinstance(part, ast.Dict)]
                     self.assertLessEqual(len(inner), 1)
+
+    def test_stars_in_calls(self):
+        for path, tree in trees():
+            for node in ast.walk(tree):
+                if isinstance(node, ast.Call):
+                    for part in node.args:
+                        if isinstance(part, ast.Starred):
+                            self.assertIsInstance(part.value, (ast.Name, ast.Attribute), f"{path.name}:{node.lineno}")
+
+    def test_caught_errors_have_names_of_their_own(self):
+        for path, tree in trees():
+            for function in functions_in(tree):
+                names = [node.name for node in ast.walk(function) if isinstance(node, ast.ExceptHandler) and node.name]
+                self.assertEqual(len(names), len(set(names)), f"{path.name}:{function.name}")
+                self.assertEqual([name for name in names if name in locals_in(function)], [])
+
+    def test_methods_and_attributes_are_unlike(self):
+        methods, attributes = set(), set()
+        for _, tree in trees():
+            for node in ast.walk(tree):
+                if isinstance(node, ast.ClassDef):
+                    methods |= {part.name for part in node.body if isinstance(part, ast.FunctionDef)}
+                elif isinstance(node, ast.Attribute) and isinstance(node.ctx, ast.Store):
+                    attributes.add(node.attr)
+        self.assertEqual(methods & attributes, set())
+
+    def test_tables_hold_functions_of_their_own_file(self):
+        for path, tree in trees():
+            own = [node.name for node in tree.body if isinstance(node, ast.FunctionDef)]
+            for node in tree.body:
+                if isinstance(node, ast.Assign):
+                    named = {part.id for part in ast.walk(node.value) if isinstance(part, ast.Name)}
+                    self.assertLessEqual(named, set(own), path.name)
 
     def test_what_is_not_used(self):
         barred = (ast.Global, ast.AsyncFunctionDef, ast.AsyncFor, ast.AsyncWith, ast.Await, ast.Div)
