@@ -12,7 +12,7 @@ from tests.flowvalues import PASSING, flow
 from tests.test_runners import CLIMBING, LOOPING, settings
 from tests.values import STRANGE, put
 
-NO_PART = ("x", [], object(), -1, True, b"", 1j)
+NO_PART = ("?", [], object(), -1, True, b"", 1j)
 
 
 def paths_in(value, room=9):
