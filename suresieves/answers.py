@@ -4,6 +4,7 @@ from suresieves.inspector import verdict
 
 # Where nothing is kept, and nothing counted.
 NOTHING = "none"
+TALLY_WORDS = ("plain", "translated", "made", "entered", "linked", "thrown", "crowded")
 
 
 def sieve_word(sieve, grant):
@@ -82,11 +83,7 @@ def kept_text(blocks):
 
 def tally_text(numbers):
     """The line of the seven numbers of a tally."""
-    plain, translated, made, entered, linked, thrown, crowded = numbers
-    return (
-        f"{plain} plain, {translated} translated, {made} made, {entered} entered, "
-        f"{linked} linked, {thrown} thrown, {crowded} crowded"
-    )
+    return ", ".join([f"{number} {word}" for number, word in zip(numbers, TALLY_WORDS)])
 
 
 def known_text(state):

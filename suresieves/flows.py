@@ -5,15 +5,13 @@ from suresieves.errors import TooMany
 from suresieves.inspector import verdict
 from suresieves.linking import MOST_COMING, is_sound_link, need_chain, need_coming
 from suresieves.loops import bound_in
-from suresieves.packets import need_grant, need_tables
-from suresieves.runs import need_sieve, need_steps
+from suresieves.packets import need_tables
+from suresieves.runs import need_steps
 from suresieves.streams import Stream, steps_free
 
 
 def link_of(sieve, grant):
     """A link of a sieve and a grant, None if the inspector does not let the sieve by."""
-    need_sieve(sieve)
-    need_grant(grant)
     told = verdict(sieve, grant)
     return (sieve, grant, told[1]) if told[0] == "let by" else None
 
@@ -36,7 +34,7 @@ def are_settings(value):
 def beginning_flow(chain, tables, coming):
     """The flow of no steps, all arguments being right."""
     stream = Stream((chain, coming, ("still", tables), (), ((0,) * 5,) * len(chain), 0))
-    stream.bring_next(tables)
+    stream.bring_next()
     return stream.flow()
 
 

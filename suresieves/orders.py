@@ -43,8 +43,6 @@ def only_number(words, most):
 
 
 def say_grant(state, words):
-    if len(words) < 3 or len(words) % 3 != 0:
-        return None
     kinds = [(words[at],) + numbers_in_words(words[at + 1:at + 3], 32) for at in range(3, len(words), 3)]
     grant = numbers_in_words(words[:3], 256) + (tuple(kinds),)
     return (exchanged(state, GRANT, grant), "granted") if is_grant(grant) else None

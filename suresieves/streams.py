@@ -49,12 +49,10 @@ class Stream:
     def feed(self, coming):
         """More packets wait, and the first one is brought if none is at hand."""
         self.coming.extend(coming)
-        if self.is_still():
-            self.bring_next(self.tables_now())
+        self.bring_next()
 
-    def bring_next(self, tables):
-        """Bring packets that wait, until one is at hand; still with the tables if none is."""
-        self.hand = ("still", tables)
+    def bring_next(self):
+        """Bring packets that wait, until one is at hand."""
         while self.coming and self.is_still():
             clock, packet = self.coming.pop(0)
             self.bring(0, clock, packet, self.tables_now())
@@ -103,8 +101,7 @@ class Stream:
             self.grow(index, 2, 1)
             self.verdicts.append(("sent", index, word, packet))
             self.hand = ("still", tables)
-        if self.is_still():
-            self.bring_next(self.tables_now())
+        self.bring_next()
 
     def deal(self, deed):
         """Do a shown deed: whether it could be done."""

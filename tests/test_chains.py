@@ -29,7 +29,8 @@ class TestRows(unittest.TestCase):
 
     def test_no_such_place(self):
         first = (("answer", 0), ("jump", 2), ("again", 1, 5, 119), ("when", "bit", 0, 1, 4), ("whenn", "from", 0, 1, 99))
-        second = (("set", 0, 0), ("jump", 2), ("again", 0, 1, 1), ("jump", 3))
+        second = (("set", 0, 0), ("jump", 2), ("again", 0, 1, 1), ("jump", 4))
+        self.assertEqual(joined((("jump", 2), ("jump", 1)), second)[:2], (("jump", 0), ("jump", 1)))
         told = joined(first, second)
         self.assertEqual(told[:6], (
             ("whenn", "same", 0, 1, 6), ("answer", 0), ("jump", 3), ("again", 1, 5, 3), ("when", "bit", 0, 1, 5),

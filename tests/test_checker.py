@@ -151,6 +151,12 @@ class TestSources(CheckerCase):
         claim = RIGHT["meant"][0]
         for told in (put(outcome, 0, outcome[0] + 1), put(outcome, 1, (5,)), put(outcome, 2, TABLES), outcome[:2], outcome + (0,), None):
             self.refused(put(claim, 5, told))
+        for told in (put(outcome, 2, put(outcome[2], 0, put(outcome[2][0], 1, True))),):
+            self.refused(put(claim, 5, told))
+        ones = ("meant", (("answer", ("number", 1)),), (1, 0), (), 0, (1, (1, 0), ()))
+        self.accepted(ones)
+        for told in ((True, (1, 0), ()), (1, (True, 0), ()), (1, (1, False), ()), (1, (1, 0), []), (1, [1, 0], ()), (1, (1, 0), (), 0)):
+            self.refused(put(ones, 5, told))
         self.refused(put(claim, 3, TABLES[:1]))
         self.refused(put(claim, 3, ()))
         self.refused(put(claim, 4, 65536))
@@ -232,8 +238,11 @@ class TestForms(CheckerCase):
                 form = form_of(LOOK, place, limit) if 1 <= limit <= 12 else BLOCK
                 for told in (BLOCK, form_of(LOOK, 2, 12), form_of(LOOK, 0, 2)):
                     self.assertIs(accepts(("formed", LOOK, place, limit, told), ()), 1 <= limit <= 12 and told == form)
-        self.refused(("formed", LOOK, 5, 12, BLOCK))
-        self.refused(("formed", LOOK, 5, 12, None))
+        for place in (5, 119, 120, -1, 10 ** 50):
+            self.refused(("formed", LOOK, place, 12, BLOCK))
+            self.refused(("formed", LOOK, place, 12, None))
+        full = PASS * 60
+        self.accepted(("formed", full, 119, 1, form_of(full, 119, 1)))
 
     def test_rewritten(self):
         chance = random.Random(72)
@@ -287,6 +296,14 @@ class TestTranslations(CheckerCase):
             self.accepted(("wrong translation", FORM, bent), (START, entered(START), 12))
             self.refused(("right translation", FORM, bent))
 
+    def test_wrong_for_no_rows(self):
+        """A bent exit of the first most is seen where MOST is 0."""
+        rows, exits = made(FORM, 4)
+        x = passed((rows, exits), START, 0)[0]
+        bent = (rows, put(exits, x, put(exits[x], 2, 7)))
+        self.accepted(("wrong translation", FORM, bent), (START, entered(START), 0))
+        self.refused(("wrong translation", FORM, bent), (START, entered(START), 12))
+
     def test_never_both(self):
         """Of bent translations: what is right has no paper that shows it wrong."""
         chance, seen = random.Random(73), {True: 0, False: 0}
@@ -318,7 +335,15 @@ class TestTranslations(CheckerCase):
                     self.refused(("passed", TRANSLATION, LOOK_RUN, most, other, behind))
             self.refused(("passed", TRANSLATION, LOOK_RUN, most, x, put(behind, 7, behind[7] + 1)))
         for most in (-1, 13, None):
-            self.refused(("passed", TRANSLATION, LOOK_RUN, most) + passed(TRANSLATION, LOOK_RUN, 12))
+            for same in (0, 12):
+                self.refused(("passed", TRANSLATION, LOOK_RUN, most) + passed(TRANSLATION, LOOK_RUN, same))
+        numbers = set()
+        for most in range(13):
+            x, behind = passed(made(FORM, 4), START, most)
+            numbers.add(x)
+            if x in (0, 1):
+                self.refused(("passed", made(FORM, 4), START, most, bool(x), behind))
+        self.assertTrue({0, 1} & numbers)
         host, run, x = run_host(TRANSLATION, entered(LOOK_RUN), LOOK_RUN, 12)
         self.assertEqual(passed(TRANSLATION, LOOK_RUN, 12)[0], x)
         self.assertEqual(run[5], passed(TRANSLATION, LOOK_RUN, 12)[1][5])
@@ -365,6 +390,30 @@ class TestFlows(CheckerCase):
                             ("deeds", DEEDS + ((6, ("make", 0, 0)),)), ("deeds", ((0, DEEDS[0][1]),) * 51)):
             self.refused(self.claim(**{part: value}), LEGS)
             self.refused(self.claim("not flowed", **{part: value, "flow": put(FLOW, 5, 9)}), LEGS)
+
+    def test_hidden_deeds_are_none_of_a_claim(self):
+        for deed in (("cut",), ("clear",), ("drop", 0, 0), ("make", 0, 0), ("settings", (12, 8, 0, 1, 1, 3, 8, 0, 1))):
+            for word, flow in (("flowed", FLOW), ("not flowed", put(FLOW, 5, 9))):
+                self.accepted(self.claim(word, flow=flow, deeds=DEEDS + ((99, ("off", 1, 5)),)), LEGS)
+                self.refused(self.claim(word, flow=flow, deeds=DEEDS + ((99, deed),)), LEGS)
+
+    def test_most_is_a_told_boundary(self):
+        parts = (LOOKING,), TABLES, ((0, (5,)),), ()
+        form, steps = form_of(LOOK, 0, 12), (("drop", 2),)
+        told = led_through(form, steps, ())
+        for most, total, is_so in ((1, 1, True), (2, 1, False), (2, 2, False), (3, 3, True)):
+            leg = ("block", 12, steps, made(told, 4), most)
+            claim = ("flowed",) + parts + (total, flowed(flow_of(*parts[:3]), (), total))
+            self.assertIs(accepts(claim, (leg,)), is_so)
+
+    def test_no_more_steps_than_are_left(self):
+        parts = (PASSING, DROPPING), TABLES, ((0, ()), (0, ())), ()
+        legs = (self.STEP, ("block", 12, (), made(form_of(PASS, 1, 12), 4), 1), ("block", 12, (), made(form_of(DROPPING[0], 0, 12), 4), 1),
+                ("block", 12, (), made(form_of(PASS, 0, 12), 4), 2))
+        for steps, is_so in ((3, False), (4, False), (5, True), (6, False)):
+            claim = parts + (steps, flowed(flow_of(*parts[:3]), (), steps))
+            self.assertIs(accepts(("flowed",) + claim, legs), is_so)
+            self.refused(("not flowed",) + claim, legs)
 
     def test_no_leg_too_many(self):
         start = flow_of((PASSING,), TABLES, ((0, ()),))

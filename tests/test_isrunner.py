@@ -131,6 +131,7 @@ class TestWrong(RunnerCase):
             self.with_block(0, 6, SECOND[6]), self.with_block(0, 6, made(form_of(LOOPING[0], 0, 12), 4)),
             self.with_block(0, 7, RUNNER[6][3] + 1),
             put(RUNNER, 2, (SECOND, FIRST) + RUNNER[2][2:]), put(RUNNER, 2, RUNNER[2][:1] + RUNNER[2]),
+            put(put(RUNNER, 5, 6), 2, RUNNER[2] + (put(put(FIRST, 0, 5), 3, 4),)),
             put(RUNNER, 2, RUNNER[2] + (put(FIRST, 0, 5),)), put(put(RUNNER, 5, 6), 2, RUNNER[2] + (put(FIRST, 0, 5),)),
         ):
             self.no_runner(told)
@@ -139,6 +140,9 @@ class TestWrong(RunnerCase):
         for told in (((2, 1),), ((1, 2),), ((2, 2), (2, 2)), ((2, 5),), ((2, 0),), ((4, 3),), ((0, 4),), ((120, 2),), ((-1, 2),),
                      ((0, 1), (2, 2), (0, 1)), ((2, 2),) * 5, ((2,),), (2, 2), ((2, 2, 2),)):
             self.no_runner(self.with_block(0, 8, told))
+        self.assertIs(is_runner(FLOW, self.with_block(1, 8, ((0, 1),))), True)
+        self.no_runner(self.with_block(1, 8, ((0, True),)))
+        self.no_runner(self.with_block(1, 8, ((False, 1),)))
 
     def test_how_many(self):
         self.no_runner(put(RUNNER, 1, settings(room=3)))
@@ -158,8 +162,11 @@ class TestWrong(RunnerCase):
     def test_from_next_and_tally(self):
         for source in (3, 4, 5, 9, -1):
             self.no_runner(put(RUNNER, 4, source))
+        empty = put(put(RUNNER, 2, ()), 4, 0)
+        self.assertIs(is_runner(FLOW, put(empty, 5, 1)), True)
         for number in (0, 1, 4, -5):
             self.no_runner(put(RUNNER, 5, number))
+            self.no_runner(put(empty, 5, min(number, 0)))
         for k in range(7):
             self.no_runner(put(RUNNER, 6, put(RUNNER[6], k, -1)))
         self.no_runner(put(RUNNER, 6, put(RUNNER[6], 3, 4)))
